@@ -61,12 +61,20 @@ func (n Node) check(ahead []Node) api.Errno {
 
 // readable: are these places, rising, of nodes that stand ahead, and of no Sink?
 func readable(places []int, ahead []Node) bool {
-	last := -1
 	for _, at := range places {
-		if at <= last || at >= len(ahead) || ahead[at].Op == Sink {
+		if !within(at, 0, len(ahead)-1) || ahead[at].Op == Sink {
 			return false
 		}
-		last = at
+	}
+	return rising(places)
+}
+
+// rising: is each of these places above the one ahead of it?
+func rising(places []int) bool {
+	for i := 1; i < len(places); i++ {
+		if places[i] <= places[i-1] {
+			return false
+		}
 	}
 	return true
 }

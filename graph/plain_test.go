@@ -47,8 +47,7 @@ func plainNode(nodes []Node, i int) api.Errno {
 		if !strings.Contains(may, strconv.Itoa(len(places))) {
 			return 111
 		}
-		sorted := slices.Compact(slices.Sorted(slices.Values(places)))
-		if !slices.Equal(sorted, places) && len(places) > 0 {
+		if !rise(places) {
 			return 111
 		}
 		for _, at := range places {
@@ -79,10 +78,10 @@ func plainCheck(p Pipeline) (int, api.Errno) {
 	return 0, 0
 }
 
-// The form of lines, as the chapter says it; that of types is looked at on its own.
+// The form of lines, as the chapter says it; that of types, and whether places rise, is looked at on its own.
 const (
 	place  = `(0|[1-9][0-9]{0,2})`
-	places = place + `(,` + place + `)*`
+	places = place + `(,` + place + `){0,3}`
 	number = `(0|[1-9][0-9]{0,6})`
 	text   = `([ -~]{1,1000})`
 )
@@ -120,9 +119,14 @@ func plainLine(line string) (n Node, found bool) {
 		default:
 			n.In = ints(parts[1])
 		}
-		return n, true
+		return n, rise(n.In) && rise(n.Side)
 	}
 	return Node{}, false
+}
+
+// rise: do places stand as they would if they were sorted, none of them twice?
+func rise(places []int) bool {
+	return slices.Equal(slices.Compact(slices.Sorted(slices.Values(places))), places)
 }
 
 func ints(text string) (list []int) {
@@ -362,7 +366,7 @@ func TestPlainTexts(t *testing.T) {
 				s = strings.Join(all, "")
 			default:
 				all := strings.Split(s, " ")
-				all[r.Intn(len(all))] = []string{"0", "7", "01", "999", "1000", "1001", "9999999", "10000000", "-", "0,1", "1,0", "acc", "dis", "x", ""}[r.Intn(15)]
+				all[r.Intn(len(all))] = []string{"0", "7", "01", "999", "1000", "1001", "9999999", "10000000", "-", "0,1", "1,0", "0,0", "0,7", "0,1,2,3", "0,1,2,3,4", "acc", "dis", "x", ""}[r.Intn(19)]
 				s = strings.Join(all, " ")
 			}
 		}

@@ -62,7 +62,8 @@ func placesText(places []int) string {
 	return strings.Join(texts, ",")
 }
 
-// readLine reads a node's line, whose values may be any that can be written.
+// readLine reads a node's line, whose values may be any that can be written: Check tells
+// whether its places are those of nodes ahead, and whether its numbers are right together.
 func readLine(line string) (Node, bool) {
 	word, rest, _ := strings.Cut(line, " ")
 	for _, o := range ops {
@@ -177,19 +178,16 @@ func (r *reader) readSides() []int {
 	return nil
 }
 
-// placesOf tells the places of a text: one or several. More than may be are refused,
-// whatever they are, so only one of those too many is kept.
+// placesOf tells the places of a text: as many as a node may have, but one at least, and rising.
 func (r *reader) placesOf(s string) []int {
+	// More than one too many need not be told apart: what is left of them is no number.
 	var places []int
-	for more := true; more && !r.failed; {
-		var part string
-		part, s, more = strings.Cut(s, ",")
+	for _, part := range strings.SplitN(s, ",", maxReads+1) {
 		at, good := numberOf(part, maxPlace)
 		r.need(good)
-		if len(places) <= maxReads {
-			places = append(places, at)
-		}
+		places = append(places, at)
 	}
+	r.need(len(places) <= maxReads && rising(places))
 	return places
 }
 

@@ -2,6 +2,7 @@ package graph
 
 import (
 	"fmt"
+	"slices"
 	"strings"
 	"testing"
 
@@ -68,8 +69,8 @@ func TestLines(t *testing.T) {
 	}{
 		{api.OK, []string{"source int", "source pair(int,int)", "sink 0", "sink 4", "each 0 - x", "each 4 0,4 x", "each 4 1 x", "flatten 0", "flatten 0,1,2,4", "window 4 0 0 0 0", "window 4 1 10 0 9", "group 4 0 0 0 acc x", "group 4 1 1 1 dis x"}},
 		{api.OK, []string{"each 0 -  x", "each 0 - x ", "each 0 - - x", "each 0 0  x", "each 0 -  ", "group 0 0 0 0 acc  x", "group 0 0 0 0 acc x ", "group 0 0 0 0 dis  "}},
-		{api.ErrInput, []string{"sink 5", "sink 6", "sink 99", "sink 100", "sink 999", "each 5 - x", "each 999 - x", "each 0 5 x", "each 0 999 x", "each 0 0,5 x", "each 0 0,0 x", "each 0 1,0 x", "each 0 0,1,2,3,4 x", "each 0 999,998,0,0,0,0,0 x", "window 5 1 10 0 0", "group 5 0 0 0 acc x", "flatten 5", "flatten 999", "flatten 0,0", "flatten 1,0", "flatten 0,1,2,3,4", "flatten 0,1,2,3,4,5,6,7,8,9,10"}},
-		{api.ErrInput, []string{"window 999 9999999 9999999 9999999 9999999", "group 999 9999999 9999999 9999999 acc x", "each 999 999,999 x"}},
+		{api.ErrInput, []string{"sink 5", "sink 6", "sink 99", "sink 100", "sink 999", "each 5 - x", "each 999 - x", "each 0 5 x", "each 0 999 x", "each 0 0,5 x", "each 0 0,1,2,33 x", "each 0 996,997,998,999 x", "window 5 1 10 0 0", "group 5 0 0 0 acc x", "flatten 5", "flatten 999", "flatten 0,5", "flatten 0,12", "flatten 0,1,2,5", "flatten 996,997,998,999"}},
+		{api.ErrInput, []string{"window 999 9999999 9999999 9999999 9999999", "group 999 9999999 9999999 9999999 acc x", "each 999 998,999 x"}},
 		{api.ErrForm, []string{"window 0 4 0 0 0", "window 0 9999999 0 0 0", "window 0 1 9999999 0 0", "window 0 1 1048577 0 0", "window 0 1 10 0 10", "window 0 1 10 0 9999999", "window 0 1 10 5 0", "window 0 2 10 9999999 0", "window 0 0 10 0 0", "window 0 0 0 0 1", "group 0 1001 0 0 acc x", "group 0 0 1001 5 acc x", "group 0 0 0 1048577 dis x", "group 0 0 1 0 acc x", "group 0 9999999 0 0 acc x", "group 0 0 9999999 0 acc x", "group 0 0 0 9999999 dis x", "group 0 1000000 0 0 acc x"}},
 		{api.ErrSyntax, []string{"", " ", "  ", "x", "0", "-", "Sink 0", "SINK 0", "sin 0", "sinks 0", "sink0", "sink\t0", "sink\x000", "drain 0", "1 int", "6 0", "sourceint", "eachx", "sink", "source", "each", "window", "group", "flatten", "#sink 0", "sink 0 # x", "sink 0\r"}},
 		{api.ErrSyntax, []string{" sink 0", "sink  0", "sink 0 ", "sink ", "sink 0 0", "sink 0,", "sink ,0", "sink 0,1", "sink -", "sink +0", "sink -0", "sink -1", "sink 00", "sink 01", "sink 000", "sink 010", "sink 0x0", "sink 0.0", "sink 1e1", "sink 1_0", "sink 1000", "sink 1001", "sink 9999", "sink 10000000", "sink 18446744073709551616", "sink 18446744073709551617", "sink ٣", "sink a"}},
@@ -87,12 +88,62 @@ func TestLines(t *testing.T) {
 	}
 }
 
+// P11.2: a line whose places, in In of a Flatten or in Side, are too many or do not rise is no node's; one whose places are no nodes' is Check's.
+func TestPlacesInLines(t *testing.T) {
+	for _, c := range []struct {
+		want  api.Errno
+		lines []string
+	}{
+		{api.OK, []string{"flatten 0", "flatten 4", "flatten 0,1", "flatten 0,4", "flatten 1,2,3", "flatten 0,1,2,3", "flatten 1,2,3,4"}},
+		{api.OK, []string{"each 4 - x", "each 4 0 x", "each 4 4 x", "each 0 0,4 x", "each 0 1,2,3 x", "each 0 0,1,2,3 x", "each 0 1,2,3,4 x"}},
+		{api.ErrInput, []string{"flatten 5", "flatten 4,5", "flatten 0,999", "flatten 998,999", "flatten 0,1,2,5", "flatten 5,6,7,8", "flatten 9,10,99,100"}},
+		{api.ErrInput, []string{"each 0 5 x", "each 0 4,5 x", "each 0 0,999 x", "each 0 998,999 x", "each 0 0,1,2,5 x", "each 0 5,6,7,8 x", "each 0 9,10,99,100 x", "each 5 0,1 x"}},
+		{api.ErrSyntax, []string{"flatten 0,0", "flatten 4,4", "flatten 9,9", "flatten 999,999", "flatten 0,0,1", "flatten 0,1,1", "flatten 0,1,2,2", "flatten 0,1,1,2", "flatten 0,1,0", "flatten 0,1,2,0", "flatten 0,0,0,0"}},
+		{api.ErrSyntax, []string{"each 0 0,0 x", "each 0 4,4 x", "each 0 9,9 x", "each 0 999,999 x", "each 0 0,0,1 x", "each 0 0,1,1 x", "each 0 0,1,2,2 x", "each 0 0,1,1,2 x", "each 0 0,1,0 x", "each 0 0,1,2,0 x", "each 0 0,0,0,0 x", "each 5 1,1 x"}},
+		{api.ErrSyntax, []string{"flatten 1,0", "flatten 4,3", "flatten 10,9", "flatten 100,99", "flatten 999,0", "flatten 33,6", "flatten 0,12,4", "flatten 0,2,1", "flatten 1,0,2", "flatten 0,1,3,2", "flatten 3,2,1,0"}},
+		{api.ErrSyntax, []string{"each 0 1,0 x", "each 0 4,3 x", "each 0 10,9 x", "each 0 100,99 x", "each 0 999,0 x", "each 0 33,6 x", "each 0 0,12,4 x", "each 0 0,2,1 x", "each 0 1,0,2 x", "each 0 0,1,3,2 x", "each 0 3,2,1,0 x", "each 5 1,0 x"}},
+		{api.ErrSyntax, []string{"flatten 0,1,2,3,4", "flatten 5,6,7,8,9", "flatten 0,0,0,0,0", "flatten 4,3,2,1,0", "flatten 0,1,2,3,4,5", "flatten 0,1,2,3,4,5,6,7,8,9,10", "flatten 0,1,2,3,", "flatten 0,1,2,3,-", "flatten 0,1,2,3,1000"}},
+		{api.ErrSyntax, []string{"each 0 0,1,2,3,4 x", "each 0 5,6,7,8,9 x", "each 0 0,0,0,0,0 x", "each 0 4,3,2,1,0 x", "each 0 0,1,2,3,4,5 x", "each 0 0,1,2,3,4,5,6,7,8,9,10 x", "each 0 0,1,2,3, x", "each 0 0,1,2,3,- x", "each 0 0,1,2,3,1000 x", "each 5 0,1,2,3,4 x"}},
+		{api.ErrSyntax, []string{"flatten 0" + strings.Repeat(",0", 100000), "each 0 0" + strings.Repeat(",0", 100000) + " x", "flatten 0" + strings.Repeat(",0", 100000) + ",", "flatten 0,1,2,3" + strings.Repeat(",", 100000), "each 0 " + strings.Repeat("0", 100000) + " x"}},
+	} {
+		for _, line := range c.lines {
+			wantLine(t, line, c.want)
+		}
+	}
+}
+
+// P11.2: all rows of up to five places, from 0 to 5, where a Flatten's In and an Each's Side stand.
+func TestRowsInLines(t *testing.T) {
+	var try func(row []int)
+	try = func(row []int) {
+		want := api.OK
+		if len(row) == 5 || !slices.Equal(row, slices.Compact(slices.Sorted(slices.Values(row)))) {
+			want = api.ErrSyntax
+		} else if slices.Contains(row, 5) {
+			want = api.ErrInput
+		}
+		text := strings.Trim(strings.ReplaceAll(fmt.Sprint(row), " ", ","), "[]")
+		if len(row) > 0 {
+			wantLine(t, "flatten "+text, want)
+			wantLine(t, "each 0 "+text+" x", want)
+		}
+		for at := 0; at <= 5 && len(row) < 5; at++ {
+			try(append(slices.Clone(row), at))
+		}
+	}
+	try(nil)
+	wantLine(t, "flatten ", api.ErrSyntax)
+	wantLine(t, "flatten -", api.ErrSyntax)
+	wantLine(t, "each 0 - x", api.OK)
+}
+
 // P11.2: numbers of each place in a line: all from 0 to the greatest that may be written, no other one.
 func TestNumbers(t *testing.T) {
-	for _, format := range []string{"sink %s", "each %s - x", "each 0 %s x", "each 0 0,%s x", "flatten %s", "flatten 0,%s", "window %s 0 0 0 0", "group %s 0 0 0 acc x"} {
+	for _, format := range []string{"sink %d", "each %d - x", "each 0 %d x", "each 0 0,%d x", "flatten %d", "flatten 0,%d", "window %d 0 0 0 0", "group %d 0 0 0 acc x"} {
 		for n := range 1200 {
-			line := fmt.Sprintf(strings.ReplaceAll(format, "%s", "%d"), n)
-			if _, _, e := Parse(head + line + "\n"); (e == api.ErrSyntax) != (n > 999) {
+			line := fmt.Sprintf(format, n)
+			wrong := n > 999 || n == 0 && strings.Contains(format, "0,%d")
+			if _, _, e := Parse(head + line + "\n"); (e == api.ErrSyntax) != wrong {
 				t.Errorf("%q: %d", line, e)
 			}
 		}
@@ -182,9 +233,8 @@ func TestLinesFirst(t *testing.T) {
 	wantSyntax(t, many+"sink 0\nsink 01\n", 33)
 	wantSyntax(t, strings.Repeat(many, 100)+"sink 01\n", 3200)
 	wantSyntax(t, strings.Repeat(many, 100)+"source int", 3200)
-	// However many places there are, all of them are read.
-	wantLine(t, "flatten 0"+strings.Repeat(",0", 100000), api.ErrInput)
-	wantLine(t, "each 0 0"+strings.Repeat(",0", 100000)+" x", api.ErrInput)
-	wantLine(t, "flatten 0"+strings.Repeat(",0", 100000)+",", api.ErrSyntax)
-	wantLine(t, "each 0 0"+strings.Repeat(",0", 100000)+", x", api.ErrSyntax)
+	// So is one whose places are too many, or do not rise.
+	wantSyntax(t, lines("window 0 1 0 0 0", "group 1 3 0 0 acc 4", "each 2 33,6 m"), 2)
+	wantSyntax(t, lines("sink 0", "flatten 0,1,2,3,4"), 1)
+	wantSyntax(t, many+lines("sink 0", "flatten 0,0"), 33)
 }
